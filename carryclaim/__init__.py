@@ -1,0 +1,1 @@
+"""Carryclaim: claims about programs that are carried across edits."""
