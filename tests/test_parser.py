@@ -2,12 +2,7 @@
 
 import unittest
 
-from carryclaim.errors import SyntaxProblem
 from carryclaim.parser import parse
-
-RESERVED = (
-    "global proc ask tell check need return if else while call to mod not and or"
-).split()
 
 
 def statements(text):
@@ -27,15 +22,6 @@ def condition(text):
     """The condition of this text."""
     (statement,) = statements("need " + text + ";")
     return statement[1]
-
-
-def place(text):
-    """The line and the column of the SyntaxProblem of a text."""
-    try:
-        parse(text)
-    except SyntaxProblem as problem:
-        return (problem.line, problem.column)
-    return None
 
 
 X = ("name", "x")
@@ -211,34 +197,6 @@ class Conditions(unittest.TestCase):
     def test_nested_conditions(self):
         wanted = ("not", ("and", ("or", X_BELOW_Y, ("not", X_BELOW_Y)), ("not", ("not", X_BELOW_Y))))
         self.assertEqual(condition("not [[x < y or not x < y] and not not x < y]"), wanted)
-
-
-class Names(unittest.TestCase):
-    def test_reserved_words_where_a_name_must_stand(self):
-        texts = {
-            "global {};": 8,
-            "proc {}() {}": 6,
-            "proc f({}) {}": 8,
-            "proc f(a, {}) {}": 11,
-            "proc f() { ask {}; }": 16,
-            "proc f() { call {}(); }": 17,
-            "proc f() { call f() to {}; }": 24,
-            "proc f() { tell {}; }": 17,
-            "proc f() { tell (1 + {}); }": 22,
-            "proc f() { check x < {}; }": 22,
-        }
-        for text, column in texts.items():
-            for word in RESERVED:
-                with self.subTest(text, word=word):
-                    self.assertEqual(place(text.replace("{}", word, 1)), (1, column))
-
-    def test_a_reserved_word_is_not_set(self):
-        for word in ("global", "proc", "else", "to", "mod", "not", "and", "or"):
-            with self.subTest(word):
-                self.assertEqual(place("proc f() { " + word + " = 1; }"), (1, 12))
-        for word in ("ask", "tell", "check", "need", "return", "if", "while", "call"):
-            with self.subTest(word):
-                self.assertEqual(place("proc f() { " + word + " = 1; }"), (1, 13 + len(word)))
 
 
 class Results(unittest.TestCase):

@@ -1,4 +1,4 @@
-"""Point 6: the place of the first token that cannot stand where it stands."""
+"""Points 4 and 6: the place of the first token that cannot stand where it stands."""
 
 import unittest
 
@@ -20,6 +20,9 @@ TEXTS = (
 )
 NAMES = ("x", "main", "in", "abcdefghijkl")
 NUMBERS = ("0", "10000")
+RESERVED = (
+    "global proc ask tell check need return if else while call to mod not and or"
+).split()
 # An error of point 3 stands nowhere.
 WRONG = ("!", "01", "10001", "abcdefghijklm", "X", "_", "?")
 
@@ -271,6 +274,34 @@ class WrittenOut(unittest.TestCase):
             "proc f() { need not": (1, 20),
             "proc f() { call f() to": (1, 23),
         })
+
+
+class Names(unittest.TestCase):
+    def test_reserved_words_where_a_name_must_stand(self):
+        texts = {
+            "global {};": 8,
+            "proc {}() {}": 6,
+            "proc f({}) {}": 8,
+            "proc f(a, {}) {}": 11,
+            "proc f() { ask {}; }": 16,
+            "proc f() { call {}(); }": 17,
+            "proc f() { call f() to {}; }": 24,
+            "proc f() { tell {}; }": 17,
+            "proc f() { tell (1 + {}); }": 22,
+            "proc f() { check x < {}; }": 22,
+        }
+        for text, column in texts.items():
+            for word in RESERVED:
+                with self.subTest(text, word=word):
+                    self.assertEqual(place(text.replace("{}", word, 1)), (1, column))
+
+    def test_a_reserved_word_is_not_set(self):
+        for word in ("global", "proc", "else", "to", "mod", "not", "and", "or"):
+            with self.subTest(word):
+                self.assertEqual(place("proc f() { " + word + " = 1; }"), (1, 12))
+        for word in ("ask", "tell", "check", "need", "return", "if", "while", "call"):
+            with self.subTest(word):
+                self.assertEqual(place("proc f() { " + word + " = 1; }"), (1, 13 + len(word)))
 
 
 class Limits(unittest.TestCase):
