@@ -36,6 +36,9 @@ INTERFACE = {
     ).split(),
     "lexer.py": ["tokens"],
     "parser.py": ["parse"],
+    "writer.py": ["write"],
+    "programs.py": ["check_program", "local_names", "variables", "parameters"],
+    "places.py": ["places", "statement_at", "first_place", "next_place", "block_place"],
 }
 
 
