@@ -39,6 +39,10 @@ INTERFACE = {
     "writer.py": ["write"],
     "programs.py": ["check_program", "local_names", "variables", "parameters"],
     "places.py": ["places", "statement_at", "first_place", "next_place", "block_place"],
+    "machine.py": ["run", "trace"],
+    "ranges.py": ["has", "within", "join", "at_most", "at_least", "other_than", "widen"],
+    "arithmetic.py": ["combine"],
+    "states.py": ["state_within", "state_join", "value_range", "condition_kinds", "assume"],
 }
 
 
