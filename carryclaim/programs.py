@@ -98,6 +98,22 @@ def expression_names(expression):
     return expression_names(expression[2]) + expression_names(expression[3])
 
 
+def expression_numbers(expression):
+    """Return the numbers in an expression, from the left to the right."""
+    if expression[0] == "number":
+        return (expression[1],)
+    if expression[0] == "name":
+        return ()
+    return expression_numbers(expression[2]) + expression_numbers(expression[3])
+
+
+def expression_signs(expression):
+    """Return the signs of the operations in an expression."""
+    if expression[0] != "op":
+        return ()
+    return (expression[1],) + expression_signs(expression[2]) + expression_signs(expression[3])
+
+
 def check_program(program):
     """Return None, or raise ProgramProblem for the first rule that is broken."""
     check_whole(program)

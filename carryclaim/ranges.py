@@ -7,6 +7,8 @@ from math import gcd
 
 LEAST_VALUE = -10000
 GREATEST_VALUE = 10000
+ALL_VALUES = (-10000, 10000, 1)
+ZERO = (0, 0, 0)
 
 
 def has(span, n):

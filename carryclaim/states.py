@@ -50,8 +50,13 @@ def in_order(kinds):
 
 def condition_kinds(state, condition):
     """Return the kinds of failures of a condition's expressions, up to one without a range."""
+    return kinds_of_all(state, condition_expressions(condition))
+
+
+def kinds_of_all(state, expressions):
+    """Return the kinds of failures of some expressions, up to one without a range."""
     kinds = ()
-    for expression in condition_expressions(condition):
+    for expression in expressions:
         found, more = value_range(state, expression)
         kinds = kinds + more
         if found is None:
@@ -117,7 +122,7 @@ def assume_comparison(state, comparison):
     second = cut_right(relation, second, first)
     if second is None:
         return None
-    return with_range(with_range(state, left, first), right, second)
+    return with_cut(with_cut(state, left, first), right, second)
 
 
 def cut_left(relation, span, other):
@@ -147,8 +152,13 @@ def cut_either(relation, span, other):
     return span
 
 
-def with_range(state, expression, span):
+def with_cut(state, expression, span):
     """Return the state in which the expression, if it is a name, has this range."""
     if expression[0] != "name":
         return state
-    return tuple([(name, span if name == expression[1] else old) for name, old in state])
+    return with_range(state, expression[1], span)
+
+
+def with_range(state, name, span):
+    """Return the state in which the variable of this name has this range."""
+    return tuple([(other, span if other == name else old) for other, old in state])

@@ -6,6 +6,8 @@ they have every form of statement, expression and condition.
 
 import random
 
+from carryclaim.places import places
+
 SIGNS = ("+", "-", "*", "/", "mod")
 RELATIONS = ("<", "<=", "==", "!=")
 GLOBALS = ("g", "b9", "in", "out", "result", "z_")
@@ -15,6 +17,9 @@ LOCALS = ("y", "b", "number", "d4")
 
 
 class Maker:
+    WORDS = ("set", "ask", "tell", "check", "need", "call", "set", "tell", "return")
+    BLOCK_WORDS = ("if", "while", "if", "while")
+
     def __init__(self, number):
         self.chance = random.Random(number)
         self.global_names = tuple(self.chance.sample(GLOBALS, self.chance.randint(0, 3)))
@@ -45,10 +50,7 @@ class Maker:
         return tuple(statements)
 
     def statement(self, depth):
-        words = ["set", "ask", "tell", "check", "need", "call", "set", "tell", "return"]
-        if depth > 0:
-            words += ["if", "while", "if", "while"]
-        word = self.chance.choice(words)
+        word = self.chance.choice(self.WORDS if depth == 0 else self.WORDS + self.BLOCK_WORDS)
         if word == "call":
             return self.call()
         if word in ("set", "ask") and not self.names:
@@ -120,3 +122,66 @@ def changed_names(block):
 
 def made_program(number):
     return Maker(number).program()
+
+
+class LivelyMaker(Maker):
+    """Makes programs of which runs reach the most: few statements end a run or fail always."""
+
+    WORDS = ("set", "ask", "tell", "set", "set", "call", "ask")
+    BLOCK_WORDS = ("if", "while", "if", "if", "check", "need", "return")
+
+    def procedure(self, name, parameters):
+        name, parameters, block = super().procedure(name, parameters)
+        if name == "main":
+            block = tuple(self.call_with_numbers(*head) for head in self.heads if head[0] != "main") + block
+        return (name, parameters, block)
+
+    def call_with_numbers(self, name, parameters):
+        target = self.chance.choice((None, *self.global_names))
+        return ("call", name, tuple(self.number() for _ in parameters), target)
+
+    def expression(self, depth):
+        choice = self.chance.random()
+        if depth > 1 and choice < 0.5:
+            sign = self.chance.choice(SIGNS)
+            right = self.number() if sign in ("/", "mod", "*") else self.expression(0)
+            return ("op", sign, self.expression(0), right)
+        if self.names and choice < 0.9:
+            return ("name", self.chance.choice(self.names))
+        return self.number()
+
+    def condition(self, depth):
+        if depth > 0 and self.chance.random() < 0.2:
+            word = self.chance.choice(("and", "or"))
+            return (word, self.condition(depth - 1), self.condition(depth - 1))
+        relation = self.chance.choice(("<", "<=", "<", "<=", "==", "!="))
+        return ("compare", relation, self.expression(2), self.expression(1))
+
+
+def lively_program(number):
+    return LivelyMaker(number).program()
+
+
+def made_range(chance):
+    low = chance.choice((-10000, 10000, 0, chance.randint(-9, 9), chance.randint(-9, 9)))
+    step = chance.randint(1, 5)
+    many = chance.choice((0, 0, 1, 2, chance.randint(0, 40)))
+    high = low + step * many
+    if many == 0 or high > 10000:
+        return (low, low, 0)
+    return (low, high, step)
+
+
+def made_paper(program, number):
+    """A paper with drawn states; few of them are None."""
+    chance = random.Random(f"paper {number}")
+    global_names, procedures = program
+    rows = []
+    for name, given, block in procedures:
+        own = sorted(changed_names(block) - set(global_names) | set(given))
+        heads = {"in": (*global_names, *given), "out": (*global_names, "result")}
+        for place in places(program, name):
+            words = heads.get(place, (*global_names, *own))
+            state = tuple((word, made_range(chance)) for word in words)
+            rows.append((name, place, state if chance.random() < 0.8 else None))
+    return tuple(rows)

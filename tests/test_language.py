@@ -43,6 +43,9 @@ INTERFACE = {
     "ranges.py": ["has", "within", "join", "at_most", "at_least", "other_than", "widen"],
     "arithmetic.py": ["combine"],
     "states.py": ["state_within", "state_join", "value_range", "condition_kinds", "assume"],
+    "papers.py": ["state_at", "blank_paper", "write_paper", "read_paper"],
+    "judging.py": ["ways", "judge", "claims"],
+    "solving.py": ["marks", "repair", "solve"],
 }
 
 
