@@ -186,6 +186,16 @@ class Repair(unittest.TestCase):
             paper = repair(program, with_state(paper, "main", "in", (("g", ZERO), ("h", (0, high, min(high, 1))))))
             self.assertEqual(state_at(paper, "main", "0")[0], ("g", (0, high, min(high, 1))))
 
+    def test_the_first_of_two_complaints_about_one_place_counts(self):
+        # Both ways of the "if" lead to the loop. The one range contains the other: only if it
+        # comes first, it is the only raising, and the loop is not widened.
+        for relation, high in (("!=", 12), ("==", 10000)):
+            program = main_of(
+                "if g " + relation + " 5 { } while 0 < 1 { need g < h; g = (g + 1); }", "global g; global h;",
+            )
+            paper = with_state(blank_paper(program), "main", "in", (("g", (0, 10, 1)), ("h", (0, 12, 1))))
+            self.assertEqual(state_at(repair(program, paper), "main", "1")[0], ("g", (0, high, 1)))
+
     def test_each_place_is_counted_for_itself(self):
         program = main_of("while g < 500 { tell 1; g = (g + 5); }", "global g;")
         wanted, raised = repaired(program, blank_paper(program))
