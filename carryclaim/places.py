@@ -89,9 +89,24 @@ def statement_with(block, path):
     return statement_with(blocks[path[1]], path[2:])
 
 
+def block_with(block, around):
+    """Return the block whose statements have these integers in front of their indexes, or None."""
+    if around == ():
+        return block
+    statement = statement_with(block, around[:-1])
+    if statement is None or not 0 <= around[-1] < len(inner_blocks(statement)):
+        return None
+    return inner_blocks(statement)[around[-1]]
+
+
+def path_after(path):
+    """Return the path of the next statement of a block, if there is one."""
+    return path[:-1] + (path[-1] + 1,)
+
+
 def place_behind(block, path):
     """Return the place where a run goes on behind the statement with this path."""
-    following = path[:-1] + (path[-1] + 1,)
+    following = path_after(path)
     if statement_with(block, following) is not None:
         return place_of(following)
     if len(path) == 1:

@@ -162,6 +162,51 @@ def lively_program(number):
     return LivelyMaker(number).program()
 
 
+EDIT_WORDS = ("replace", "insert", "delete", "swap", "rename", "call it", "add", "drop", "insert", "replace")
+NEW_NAMES = ("k", "new", "p_1", "f2", "result", "in")
+
+
+class EditMaker(LivelyMaker):
+    """Makes edits of a program; not all of them apply."""
+
+    def __init__(self, program, number):
+        super().__init__(f"edit {number}")
+        self.global_names, self.procedures = program
+        self.heads = [head for *head, _ in self.procedures]
+        self.left = 3
+
+    def edit(self):
+        word = self.chance.choice(EDIT_WORDS)
+        name, given, block = self.chance.choice(self.procedures)
+        changed = set().union(*(changed_names(row[2]) for row in self.procedures))
+        own = [*given, *sorted(changed_names(block) - set(self.global_names))]
+        if word == "rename":
+            return (word, self.chance.choice((*self.global_names, *own, *sorted(changed), "x")), self.chance.choice(NEW_NAMES))
+        if word == "call it":
+            return (word, name, self.chance.choice(NEW_NAMES))
+        if word == "add":
+            return (word, self.procedure(self.chance.choice(NEW_NAMES), tuple(self.chance.sample(PARAMETERS, 2))))
+        if word == "drop":
+            return (word, name)
+        path = self.path(block, word == "insert")
+        self.names = (*self.global_names, *own, *self.chance.sample(NEW_NAMES, self.chance.randint(0, 1)))
+        if word in ("replace", "insert"):
+            return (word, name, path, self.statement(2))
+        return (word, name, path)
+
+    def path(self, block, at_the_end):
+        index = self.chance.randrange(len(block) + at_the_end) if len(block) + at_the_end > 0 else 0
+        inner = block[index][2:] if index < len(block) and block[index][0] in ("if", "while") else ()
+        if not inner or self.chance.random() < 0.4:
+            return (index,)
+        number = self.chance.randrange(len(inner))
+        return (index, number, *self.path(inner[number], at_the_end))
+
+
+def made_edit(program, number):
+    return EditMaker(program, number).edit()
+
+
 def made_range(chance):
     low = chance.choice((-10000, 10000, 0, chance.randint(-9, 9), chance.randint(-9, 9)))
     step = chance.randint(1, 5)

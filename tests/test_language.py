@@ -46,7 +46,14 @@ INTERFACE = {
     "papers.py": ["state_at", "blank_paper", "write_paper", "read_paper"],
     "judging.py": ["ways", "judge", "claims"],
     "solving.py": ["marks", "repair", "solve"],
+    "edits.py": ["apply", "undo", "moved_place"],
+    "carrying.py": ["carry", "touched", "rejudge"],
+    "merging.py": ["rebase", "both"],
+    "workshop.py": ["Workshop", "replay"],
 }
+WORKSHOP_METHODS = (
+    "begin versions program paper origin edit offer merge try_inputs witnesses report changes journal"
+).split()
 
 
 def bound_names(tree):
@@ -148,6 +155,31 @@ class Language(unittest.TestCase):
             defined = [getattr(node, "name", None) for node in self.trees[name].body]
             for word in wanted:
                 self.assertIn(word, defined, name)
+
+    def test_5_the_methods_of_the_interface_stand_in_their_class(self):
+        for node in self.trees["workshop.py"].body:
+            if isinstance(node, ast.ClassDef) and node.name == "Workshop":
+                methods = [method.name for method in node.body if isinstance(method, ast.FunctionDef)]
+                for word in WORKSHOP_METHODS:
+                    self.assertIn(word, methods)
+
+    def test_15_no_local_name_is_that_of_an_import_or_a_class(self):
+        for name, tree in self.trees.items():
+            top = [alias.name for node in tree.body if isinstance(node, ast.ImportFrom) for alias in node.names]
+            top += [node.name for node in tree.body if isinstance(node, ast.ClassDef)]
+            for function in ast.walk(tree):
+                if isinstance(function, FUNCTIONS):
+                    own = [bound for part in function.body for bound in bound_names(part)]
+                    own += [argument.arg for argument in function.args.args]
+                    for bound in own:
+                        self.assertNotIn(bound, top, name)
+
+    def test_18_no_name_is_a_method_and_an_attribute_of_one_class(self):
+        for where, node in self.nodes(ast.ClassDef):
+            methods = [part.name for part in node.body if isinstance(part, ast.FunctionDef)]
+            for part in ast.walk(node):
+                if isinstance(part, ast.Attribute) and isinstance(part.ctx, ast.Store):
+                    self.assertNotIn(part.attr, methods, where)
 
     def test_17_barred_words(self):
         for where, node in self.nodes(ast.Name, ast.Attribute, ast.arg, ast.FunctionDef, ast.ClassDef):

@@ -1,16 +1,22 @@
-"""Point 27: what an accepted paper promises of every run."""
+"""Promises over the whole program: points 2, 27 and 45."""
 
 import random
 import unittest
 
-from carryclaim.judging import claims, judge
+from carryclaim.carrying import carry, rejudge, touched
+from carryclaim.edits import apply, moved_place, undo
+from carryclaim.errors import EditProblem
+from carryclaim.judging import claims, judge, ways
 from carryclaim.machine import run, trace
-from carryclaim.papers import blank_paper
+from carryclaim.merging import both, rebase
+from carryclaim.papers import blank_paper, read_paper, state_at, write_paper
 from carryclaim.parser import parse
+from carryclaim.places import places
 from carryclaim.programs import variables
 from carryclaim.ranges import has
-from carryclaim.solving import repair, solve
-from tests.made import lively_program, made_paper, made_program
+from carryclaim.solving import marks, repair, solve
+from carryclaim.workshop import Workshop, replay
+from tests.made import lively_program, made_edit, made_paper, made_program
 
 TEXTS = (
     # The example of the document.
@@ -105,6 +111,110 @@ class EveryRun(unittest.TestCase):
         self.assertNotEqual(judge(program, paper), ())
         self.assertEqual({row[3] for row in claims(program, paper)}, {"unreached"})
         self.assertEqual(run(program, (0,), 9)[0], ("failed", "main", "1", "division"))
+
+
+class OnlyTuples(unittest.TestCase):
+    """Point 2: all collections that are returned are tuples, and so nothing that is passed can be changed."""
+
+    def assert_plain(self, found):
+        if found is not None and not isinstance(found, (int, str)):
+            self.assertIs(type(found), tuple)
+            for part in found:
+                self.assert_plain(part)
+
+    def test_papers_and_the_judge(self):
+        for number in range(60):
+            program = lively_program(number)
+            for paper in (solve(program), blank_paper(program), made_paper(program, number)):
+                for found in (
+                    repair(program, paper), judge(program, paper), claims(program, paper), marks(program),
+                    read_paper(program, write_paper(paper)), state_at(paper, "main", "in"),
+                ):
+                    self.assert_plain(found)
+                for name, place, _ in paper:
+                    self.assert_plain(ways(program, paper, name, place))
+
+    def test_edits(self):
+        for number in range(60):
+            program = lively_program(number)
+            paper = solve(program)
+            add = ("add", parse("proc added(x) { tell x; }")[1][0])
+            for edit in (made_edit(program, f"tuples {number}"), add):
+                try:
+                    apply(program, edit)
+                except EditProblem:
+                    continue
+                for found in (
+                    apply(program, edit), carry(program, paper, edit), touched(program, edit), rejudge(program, paper, edit),
+                    [moved_place(program, edit, "main", place) for place in places(program, "main")][-1],
+                ):
+                    self.assert_plain(found)
+                if edit[0] != "drop":
+                    self.assert_plain(undo(program, edit))
+                if edit[0] != "add":
+                    self.assert_plain(rebase(program, add, edit))
+                    self.assert_plain(both(program, edit, add))
+
+    def test_the_workshop(self):
+        workshop = Workshop()
+        workshop.begin(TEXTS[0])
+        workshop.begin("proc main() { ask x; tell (1 / x); }")
+        self.assert_plain(workshop.try_inputs(2, (0,)))
+        workshop.edit(2, ("insert", "main", (0,), ("tell", ("number", 1))))
+        self.assert_plain(workshop.offer(1, write_paper(blank_paper(parse(TEXTS[0])))))
+        for one in (workshop, replay(workshop.journal())):
+            self.assert_plain(one.journal())
+            self.assert_plain(one.changes(3))
+            for version in range(1, 4):
+                for method in (one.program, one.paper, one.origin, one.witnesses, one.report):
+                    self.assert_plain(method(version))
+            one.try_inputs(1, (5,))
+
+    def test_what_a_workshop_returned_stays(self):
+        workshop = Workshop()
+        workshop.begin("proc main() { ask x; tell (1 / x); }")
+        before = (workshop.journal(), workshop.witnesses(1), workshop.report(1))
+        workshop.try_inputs(1, (0,))
+        self.assertEqual([len(part) for part in before], [1, 0, 2])
+        self.assertEqual((len(workshop.journal()), len(workshop.witnesses(1))), (2, 1))
+
+
+class Example(unittest.TestCase):
+    """Point 45, in a workshop."""
+
+    CLAIMS = (
+        ("main", "2.0.0", "overflow", "safe"), ("main", "3", "check", "safe"), ("main", "4", "division", "safe"),
+        ("main", "4", "overflow", "safe"),
+    )
+
+    def test_the_example(self):
+        workshop = Workshop()
+        self.assertEqual(workshop.begin(TEXTS[0]), 1)
+        self.assertEqual(places(workshop.program(1), "main"), ("in", "0", "1", "2", "2.0.0", "3", "4", "out"))
+        paper = workshop.paper(1)
+        self.assertEqual(dict(state_at(paper, "main", "1"))["x"], (-10000, 10000, 1))
+        self.assertEqual(dict(state_at(paper, "main", "2")), {"g": (0, 10, 2), "x": (1, 10000, 1)})
+        self.assertEqual(dict(state_at(paper, "main", "3"))["g"], (10, 10, 0))
+        self.assertEqual(workshop.report(1), self.CLAIMS)
+        for inputs in ROWS:
+            self.assertNotEqual(workshop.try_inputs(1, inputs)[0], "failed")
+        self.assertEqual(workshop.witnesses(1), ())
+
+    def test_the_example_across_edits(self):
+        workshop = Workshop()
+        workshop.begin(TEXTS[0])
+        workshop.edit(1, ("delete", "main", (1,)))
+        workshop.edit(1, ("rename", "g", "h"))
+        self.assertEqual(workshop.changes(2), (("main", "3", "division", "safe", "open"),))
+        self.assertEqual(workshop.changes(3), ())
+        self.assertEqual(workshop.try_inputs(2, (0,)), ("failed", "main", "3", "division"))
+        self.assertEqual(workshop.changes(2), (("main", "3", "division", "safe", "broken"),))
+        self.assertEqual(workshop.merge(3, 2), 4)
+        self.assertEqual(workshop.witnesses(4), (("main", "3", "division", (0,)),))
+        self.assertEqual(workshop.report(4), (
+            ("main", "1.0.0", "overflow", "safe"), ("main", "2", "check", "safe"), ("main", "3", "division", "broken"),
+            ("main", "3", "overflow", "safe"),
+        ))
 
 
 if __name__ == "__main__":
